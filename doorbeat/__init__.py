@@ -1,0 +1,1 @@
+"""Doorbeat: a memory with two doors."""
