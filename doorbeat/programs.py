@@ -51,19 +51,19 @@ def check_memory(memory):
             raise BadMemory("a worth is 0, 1 or 2")
 
 
-def check_program(door, program, cells):
-    """Refuse what is no program at a memory of so many cells."""
+def check_program(door, program, cells, most):
+    """Refuse what is no program of at most so many deeds at a memory of so many cells."""
     if not isinstance(program, list):
         raise BadProgram(door, 0)
     for place, deed in enumerate(program):
-        if place == MOST_DEEDS or not is_deed(deed, cells):
+        if place == most or not is_deed(deed, cells):
             raise BadProgram(door, place)
 
 
-def check_programs(left, right, cells):
+def check_programs(left, right, cells, most=MOST_DEEDS):
     """Refuse two programs if one is none, the left one first."""
-    check_program(0, left, cells)
-    check_program(1, right, cells)
+    check_program(0, left, cells, most)
+    check_program(1, right, cells, most)
 
 
 def clash(deed, other):

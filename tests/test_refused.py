@@ -2,7 +2,10 @@
 
 import unittest
 
-from doorbeat.errors import BadMemory, BadProgram, BadRule, DoorError
+from doorbeat.errors import BadMemory, BadOrder, BadProgram, BadRule, DoorError, TooMany
+from doorbeat.fitting import fitted, shows
+from doorbeat.notes import written
+from doorbeat.orders import explained, ordered, outcomes
 from doorbeat.parting import parting
 from doorbeat.running import clashes, run
 
@@ -35,6 +38,23 @@ class Refusals(unittest.TestCase):
         self.assertEqual((error.door, error.place), (door, place))
 
 
+def ordered_at(memory, left, right):
+    return ordered(memory, left, right, "l" * len(left) + "r" * len(right))
+
+
+def explained_at(memory, left, right):
+    return explained(memory, left, right, [], [], memory)
+
+
+def shows_nothing(left, right):
+    return shows(left, right, [])
+
+
+# Those that take a memory and two programs, and those that take two programs of four cells.
+AT_MEMORIES = (ordered_at, explained_at, outcomes)
+OF_FOUR_CELLS = (clashes, fitted, shows_nothing, written)
+
+
 class TestMemories(Refusals):
     def test_refused(self):
         memories = [(), (0,) * 5, (0,) * 9, (3,), (-1,), (0, 1, 2, 3), (0, 0, -1), (0, "1"), (None,), ((0,),),
@@ -43,12 +63,21 @@ class TestMemories(Refusals):
             for rule in RULES:
                 with self.subTest(memory=memory, rule=rule):
                     self.refused(BadMemory, run, rule, memory, [], [])
+            for call in AT_MEMORIES:
+                with self.subTest(memory=memory, call=call):
+                    self.refused(BadMemory, call, memory, [], [])
+            with self.subTest(memory=memory):
+                self.refused(BadMemory, explained, memory, [], [], [], [], (0,))
 
     def test_let_by(self):
         for memory in [(0,), (1,), (2,), (0, 1), (2, 1, 0), (0, 1, 2, 2)]:
             for rule in RULES:
                 with self.subTest(memory=memory, rule=rule):
                     self.assertEqual(run(rule, memory, [], []), ([], [], memory, 0))
+            with self.subTest(memory=memory):
+                self.assertEqual(ordered(memory, [], [], ""), ((), (), memory))
+                self.assertEqual(explained(memory, [], [], [], [], memory), "")
+                self.assertEqual(outcomes(memory, [], []), [((), (), memory)])
 
 
 class TestCounts(Refusals):
@@ -80,22 +109,31 @@ class TestPrograms(Refusals):
                         self.refused_program(1, 0, run, rule, (0, 0), [], [deed])
                     self.refused_program(0, 0, parting, 2, [deed], [])
                     self.refused_program(1, 0, parting, 2, [], [deed])
+                    for call in AT_MEMORIES:
+                        self.refused_program(0, 0, call, (0, 0), [deed], [])
+                        self.refused_program(1, 0, call, (0, 0), [], [deed])
 
-    def test_deeds_that_are_none_for_clashes(self):
+    def test_deeds_that_are_none_of_four_cells(self):
         for what, deeds in NO_DEEDS.items():
             for deed in deeds:
                 if deed[1:2] == (2,):
                     # Four cells here: cell 2 is one of them.
                     continue
-                with self.subTest(what=what, deed=deed):
-                    self.refused_program(0, 0, clashes, [deed], [])
-                    self.refused_program(1, 0, clashes, [], [deed])
+                for call in OF_FOUR_CELLS:
+                    with self.subTest(what=what, deed=deed, call=call):
+                        self.refused_program(0, 0, call, [deed], [])
+                        self.refused_program(1, 0, call, [], [deed])
 
     def test_no_tuple_is_no_deed(self):
         for deed in ["rest", ["rest"], ["read", 0], None, 0]:
             with self.subTest(deed=deed):
                 self.refused_program(0, 1, run, "old", (0,), [REST, deed], [])
-                self.refused_program(1, 1, clashes, [], [REST, deed])
+                for call in AT_MEMORIES:
+                    self.refused_program(0, 1, call, (0,), [REST, deed], [])
+                    self.refused_program(1, 1, call, (0,), [], [REST, deed])
+                for call in OF_FOUR_CELLS:
+                    self.refused_program(0, 1, call, [REST, deed], [])
+                    self.refused_program(1, 1, call, [], [REST, deed])
 
     def test_cells_that_the_memory_has(self):
         for cells in (1, 2, 3, 4):
@@ -106,18 +144,27 @@ class TestPrograms(Refusals):
                         if cell < cells:
                             self.assertEqual(run("old", (0,) * cells, program, program)[3], 3)
                             self.assertIsNone(parting(cells, program, []))
+                            for call in AT_MEMORIES:
+                                call((0,) * cells, program, program)
                         else:
+                            for call in AT_MEMORIES:
+                                self.refused_program(0, 2, call, (0,) * cells, program, [])
+                                self.refused_program(1, 2, call, (0,) * cells, [], program)
                             self.refused_program(0, 2, run, "old", (0,) * cells, program, [])
                             self.refused_program(1, 2, run, "old", (0,) * cells, [], program)
                             self.refused_program(0, 2, parting, cells, program, [])
                             self.refused_program(1, 2, parting, cells, [], program)
 
-    def test_clashes_has_four_cells(self):
+    def test_four_cells(self):
         for cell in range(4):
             self.assertEqual(clashes([("read", cell)], [("write", cell, 0)]), [0])
+            self.assertEqual(len(fitted([("read", cell)], [("write", cell, 0)])[1]), 1)
+            self.assertIs(shows([("read", cell)], [("write", cell, 0)], [(0, 0)]), True)
+            self.assertEqual(written([("read", cell)], [("write", cell, 0)]), f"r{cell}\nw{cell}0")
         for deed in [("read", 4), ("write", 4, 0), ("read", -1)]:
-            self.refused_program(0, 1, clashes, [REST, deed], [])
-            self.refused_program(1, 1, clashes, [], [REST, deed])
+            for call in OF_FOUR_CELLS:
+                self.refused_program(0, 1, call, [REST, deed], [])
+                self.refused_program(1, 1, call, [], [REST, deed])
 
     def test_all_good_deeds_are_let_by(self):
         program = [REST]
@@ -128,6 +175,12 @@ class TestPrograms(Refusals):
         for rule in RULES:
             self.assertGreaterEqual(run(rule, (0, 0, 0, 0), program, program)[3], len(program))
         self.assertEqual(len(clashes(program, program)), 12)
+        for call in OF_FOUR_CELLS:
+            call(program, program)
+        ordered_at((0, 0, 0, 0), program, program)
+        for deed in program:
+            explained_at((0, 0, 0, 0), [deed], [deed])
+            outcomes((0, 0, 0, 0), [deed], [deed])
 
     def test_first_that_is_none(self):
         program = [REST, ("read", 0), ("write", 0, 3), REST, ("read", 5), ("look", 0)]
@@ -135,8 +188,12 @@ class TestPrograms(Refusals):
         self.refused_program(1, 2, run, "new", (0,), [], program)
         self.refused_program(0, 2, parting, 1, program, [])
         self.refused_program(1, 2, parting, 1, [], program)
-        self.refused_program(0, 2, clashes, program, [])
-        self.refused_program(1, 2, clashes, [], program)
+        for call in AT_MEMORIES:
+            self.refused_program(0, 2, call, (0,), program, [])
+            self.refused_program(1, 2, call, (0,), [], program)
+        for call in OF_FOUR_CELLS:
+            self.refused_program(0, 2, call, program, [])
+            self.refused_program(1, 2, call, [], program)
 
     def test_forty_deeds_are_let_by(self):
         for program in [[REST] * 40, [("read", 0)] * 40, [("write", 0, 1)] * 40]:
@@ -147,6 +204,8 @@ class TestPrograms(Refusals):
             self.assertEqual(clashes([], program), [])
             self.assertIsNone(parting(1, program, []))
             self.assertIsNone(parting(1, [], program))
+            self.assertEqual(len(ordered_at((0,), program, program)), 3)
+            self.assertEqual(len(written(program, program).split("\n")), 2)
 
     def test_forty_first_deed_is_refused(self):
         for many in (41, 42, 60):
@@ -154,10 +213,35 @@ class TestPrograms(Refusals):
                 for rule in RULES:
                     self.refused_program(0, 40, run, rule, (0,), program, [])
                     self.refused_program(1, 40, run, rule, (0,), [], program)
-                self.refused_program(0, 40, clashes, program, [])
-                self.refused_program(1, 40, clashes, [], program)
+                for call in (clashes, written):
+                    self.refused_program(0, 40, call, program, [])
+                    self.refused_program(1, 40, call, [], program)
                 self.refused_program(0, 40, parting, 1, program, [])
                 self.refused_program(1, 40, parting, 1, [], program)
+                for call in AT_MEMORIES:
+                    self.refused_program(0, 40, call, (0,), program, [])
+                    self.refused_program(1, 40, call, (0,), [], program)
+
+    def test_twenty_deeds_are_let_by_for_fitted_and_shows(self):
+        for program in [[REST] * 20, [("read", 0)] * 20, [("write", 0, 1)] * 20]:
+            for call in (fitted, shows_nothing):
+                call(program, [])
+                call([], program)
+                call(program, program)
+
+    def test_twenty_first_deed_is_refused_for_fitted_and_shows(self):
+        for many in (21, 22, 40, 41, 60):
+            for program in [[REST] * many, [("read", 0)] * many, [("write", 0, 1)] * many]:
+                for call in (fitted, shows_nothing):
+                    self.refused_program(0, 20, call, program, [])
+                    self.refused_program(1, 20, call, [], program)
+                    self.refused_program(0, 20, call, program, program)
+
+    def test_twenty_first_deed_and_others(self):
+        for call in (fitted, shows_nothing):
+            self.refused_program(0, 19, call, [REST] * 19 + [("look",)] + [REST] * 5, [])
+            self.refused_program(0, 20, call, [REST] * 21 + [("look",)], [])
+            self.refused_program(1, 20, call, [], [REST] * 20 + [("look",)])
 
     def test_forty_first_deed_and_others(self):
         earlier = [REST] * 39 + [("look",)] + [REST] * 5
@@ -170,14 +254,23 @@ class TestPrograms(Refusals):
     def test_left_ahead_of_right(self):
         near = [("look",)]
         far = [REST] * 41
-        for call, first in [(run, ("old", (0,))), (parting, (1,)), (clashes, ())]:
+        calls = [(run, ("old", (0,))), (parting, (1,)), (clashes, ()), (written, ())]
+        calls += [(call, ((0,),)) for call in AT_MEMORIES]
+        for call, first in calls:
             self.refused_program(0, 40, call, *first, far, near)
             self.refused_program(0, 0, call, *first, near, far)
+        for call in (fitted, shows_nothing):
+            self.refused_program(0, 20, call, far, near)
+            self.refused_program(0, 0, call, near, far)
 
     def test_no_list_is_no_program(self):
         for program in [(), ("rest",), None]:
-            self.refused_program(0, 0, clashes, program, [])
-            self.refused_program(1, 0, clashes, [], program)
+            for call in OF_FOUR_CELLS:
+                self.refused_program(0, 0, call, program, [])
+                self.refused_program(1, 0, call, [], program)
+            for call, more in [(ordered, ("",)), (explained, ([], [], (0,))), (outcomes, ())]:
+                self.refused_program(0, 0, call, (0,), program, [], *more)
+                self.refused_program(1, 0, call, (0,), [], program, *more)
 
 
 class TestOrder(Refusals):
@@ -199,6 +292,45 @@ class TestOrder(Refusals):
         self.refused(BadMemory, parting, 0, bad, bad)
         self.refused(BadMemory, parting, 5, [], bad)
         self.refused_program(0, 0, parting, 4, bad, bad)
+
+    def test_fitted_shows_and_written(self):
+        bad = [("look",)]
+        for call in (fitted, shows_nothing, written):
+            self.refused_program(0, 0, call, bad, bad)
+            self.refused_program(1, 0, call, [], bad)
+        # A reason that shows nothing is told to do so, and not refused; bad programs are, ahead of it.
+        self.refused_program(1, 0, shows, [], bad, [(9, 9)])
+
+    def test_ordered(self):
+        bad = [("look",)]
+        self.refused(BadMemory, ordered, (3,), bad, bad, "x")
+        self.refused(BadMemory, ordered, (), [], [], "x")
+        self.refused_program(0, 0, ordered, (0,), bad, bad, "x")
+        self.refused_program(1, 0, ordered, (0,), [], bad, "x")
+        self.refused_program(1, 40, ordered, (0,), [], [REST] * 41, "x")
+        self.refused(BadOrder, ordered, (0,), [], [], "x")
+        self.refused(BadOrder, ordered, (0,), [REST] * 7, [REST] * 7, "x")
+
+    def test_explained(self):
+        bad = [("look",)]
+        seven = [REST] * 7
+        self.refused(BadMemory, explained, (3,), bad, bad, [], [], ())
+        self.refused_program(0, 0, explained, (0,), bad, bad, [], [], ())
+        self.refused_program(1, 0, explained, (0,), [], bad, [], [], ())
+        self.refused_program(1, 7, explained, (0,), seven, seven + bad, [], [], ())
+        self.refused(BadMemory, explained, (0,), seven, seven, [], [], ())
+        self.refused(BadMemory, explained, (0,), seven, [], [], [], (0, 0))
+        self.refused(TooMany, explained, (0,), seven, [], [], [], (0,))
+
+    def test_outcomes(self):
+        bad = [("look",)]
+        seven = [REST] * 7
+        self.refused(BadMemory, outcomes, (3,), bad, bad)
+        self.refused(BadMemory, outcomes, (3,), seven, seven)
+        self.refused_program(0, 7, outcomes, (0,), seven + bad, bad)
+        self.refused_program(1, 0, outcomes, (0,), seven, bad)
+        self.refused(TooMany, outcomes, (0,), seven, [])
+        self.refused(TooMany, outcomes, (0,), [], seven)
 
 
 if __name__ == "__main__":
